@@ -241,10 +241,11 @@ func bodyInForm(p Prog, body int) bool {
 }
 
 func cellsInForm(cells []int) bool {
-	if len(cells) > ProgCells {
-		return false
-	}
-	for _, n := range cells {
+	return len(cells) <= ProgCells && numsInForm(cells)
+}
+
+func numsInForm(nums []int) bool {
+	for _, n := range nums {
 		if !isPlace(n, ProgNums) {
 			return false
 		}
