@@ -223,6 +223,7 @@ func TestReadsAndWritesOfWhatIsNoChange(t *testing.T) {
 		{[]impl.Deed{{}, {Kind: 6, A: 1, B: 1}, {Kind: -1, A: 1, B: 2}, {Kind: 3, A: 1, B: 500}, {Kind: 4, A: 7, B: 2}, {Kind: 5, A: 1, B: 2}}, nil, nil},
 		{[]impl.Deed{{Kind: 7}, load(0, 1), {Kind: 9}, store(2, 0)}, []int{1}, []int{2}},
 		{[]impl.Deed{load(9, 1), store(0, -4)}, []int{1}, []int{0}},
+		{[]impl.Deed{load(math.MinInt, 2), load(math.MaxInt, 0), store(2, math.MaxInt), store(1, 3)}, []int{0, 2}, []int{1, 2}},
 	}
 	for _, x := range looks {
 		for cells := range impl.ProgCells + 1 {
@@ -237,17 +238,41 @@ func TestReadsAndWritesOfWhatIsNoChange(t *testing.T) {
 	}
 }
 
-// Cells that there are not are told as the deeds name them, as nobody says how many there are.
-func TestReadsAndWritesOfCellsThatAreNone(t *testing.T) {
+// A place below 0, or past the cells that there can be at most, is none: nothing is told of it, whoever loads or stores there, and cells beside it are told as they were without it.
+func TestReadsAndWritesOfPlacesThatAreNoCells(t *testing.T) {
+	for _, place := range slices.Concat(strange, []int{-2, 7, 8, 255, 256, 257, 1 << 32, -1 << 32, math.MinInt + 1, math.MaxInt - 1}) {
+		if place >= 0 && place < 3 {
+			touchedJust(t, []impl.Deed{load(0, place)}, []int{place}, nil)
+			touchedJust(t, []impl.Deed{store(place, 0)}, nil, []int{place})
+			continue
+		}
+		touchedJust(t, []impl.Deed{load(0, place)}, nil, nil)
+		touchedJust(t, []impl.Deed{store(place, 0)}, nil, nil)
+		touchedJust(t, []impl.Deed{load(0, place), store(place, 0)}, nil, nil)
+		touchedJust(t, []impl.Deed{store(place, 0), load(0, place)}, nil, nil)
+		touchedJust(t, []impl.Deed{load(1, 2), store(place, 0), load(0, place), store(0, 1), load(2, 0)}, []int{2}, []int{0})
+		for cell := range impl.ProgCells {
+			touchedJust(t, []impl.Deed{load(0, place), load(0, cell), store(place, 0), store(cell, 0)}, []int{cell}, []int{cell})
+			touchedJust(t, []impl.Deed{store(cell, 0), load(0, place), load(0, cell), store(place, 0)}, nil, []int{cell})
+		}
+	}
+}
+
+// Any deeds at all: what they name beside cells is left out, and leaves the rest as it is.
+func TestReadsAndWritesOfAnyDeeds(t *testing.T) {
 	r := rand.New(rand.NewPCG(15, 16))
 	for range 20000 {
-		var deeds []impl.Deed
+		var deeds, ofCells []impl.Deed
 		for range r.IntN(12) {
-			deeds = append(deeds, impl.Deed{Kind: r.IntN(8) - 1, A: strange[r.IntN(len(strange))], B: strange[r.IntN(len(strange))]})
+			d := impl.Deed{Kind: r.IntN(8) - 1, A: strange[r.IntN(len(strange))], B: strange[r.IntN(len(strange))]}
+			deeds = append(deeds, d)
+			if d.Kind == impl.DeedLoad && inRange(d.B, 0, 2) || d.Kind == impl.DeedStore && inRange(d.A, 0, 2) {
+				ofCells = append(ofCells, d)
+			}
 		}
 		judgedTouched(t, deeds)
+		touchedJust(t, deeds, impl.ChangeReads(ofCells), impl.ChangeWrites(ofCells))
 	}
-	judgedTouched(t, []impl.Deed{load(0, math.MaxInt), load(0, math.MinInt), store(-1, 0), load(0, -1), load(0, 7)})
 }
 
 func TestManyDeeds(t *testing.T) {
