@@ -137,24 +137,26 @@ func TestNoProgramIsNotOk(t *testing.T) {
 	judged(t, impl.Prog{Cells: []int{1}, Bodies: [][]impl.Act{}}, false)
 }
 
+// wrongTexts are no programs', each by little.
+var wrongTexts = []string{
+	"", "\n", " ", "cells", "cells\n", "body", "body\n", "cells\nbody", "cells body\n", "\ncells\nbody\n", "cells\n\nbody\n", "cells\nbody\n\n",
+	" cells\nbody\n", "cells \nbody\n", "cells  1\nbody\n", "cells 1 \nbody\n", "cells\tbody\n", "cells\r\nbody\r\n", "cells\nbody \n", "cells\n body\n",
+	"cells 01\nbody\n", "cells 00\nbody\n", "cells -0\nbody\n", "cells +1\nbody\n", "cells -1\nbody\n", "cells 1_0\nbody\n", "cells 0x1\nbody\n", "cells 1.\nbody\n", "cells 1e1\nbody\n", "cells \u0661\nbody\n",
+	"cells 100\nbody\n", "cells 1 2 3 4\nbody\n", "cells 18446744073709551616\nbody\n", "cells 9223372036854775808\nbody\n", "cells A\nbody\n",
+	"body\ncells\n", "cells\nbody\ncells\n", "cells\ncells\nbody\n", "cells 1\ncells 1\nbody\n", "fail\ncells\nbody\n", "cells\nfail\nbody\n", "cells\nbody 1\n", "Cells\nbody\n", "cells\nBody\n", "cell\nbody\n", "cells\nbodies\n",
+	"cells\nbody\nbody\nbody\nbody\nbody\n", "cells\nbody\nfail\nfail\nfail\nfail\nfail\n",
+	"cells\nbody\nfail \n", "cells\nbody\n fail\n", "cells\nbody\nfail r\n", "cells\nbody\nfail 1\n", "cells\nbody\nFAIL\n", "cells\nbody\nfail\x00\n", "cells\nbody\nwhat\n",
+	"cells\nbody\nfailif\n", "cells\nbody\nfailif \n", "cells\nbody\nfailif u\n", "cells\nbody\nfailif A\n", "cells\nbody\nfailif 0\n", "cells\nbody\nfailif r s\n", "cells\nbody\nfailif rs\n", "cells\nbody\nfailif  r\n",
+	"cells\nbody\nfork\nbody\n", "cells\nbody\nfork \nbody\n", "cells\nbody\nfork 0\nbody\n", "cells\nbody\nfork 2\nbody\n", "cells\nbody\nfork 01\nbody\n", "cells\nbody\nfork -1\nbody\n", "cells\nbody\nfork 1 1 1\nbody\n", "cells\nbody\nfork 1,1\nbody\n", "cells\nbody\nfork r\nbody\n",
+	"cells\nbody\ntry \n", "cells\nbody\ntry r=0  s=0\n", "cells\nbody\ntry r=0 \n", "cells\nbody\ntry u=1\n", "cells\nbody\ntry r=100\n", "cells\nbody\ntry r=07\n", "cells\nbody\ntry r=-1\n", "cells\nbody\ntry r=+1\n", "cells\nbody\ntry r= 1\n", "cells\nbody\ntry r=\n", "cells\nbody\ntry =1\n", "cells\nbody\ntry =\n", "cells\nbody\ntry r\n", "cells\nbody\ntry r==1\n", "cells\nbody\ntry r=s\n", "cells\nbody\ntry r=1 r=1 r=1 r=1 r=1 r=1\n",
+	"cells\nbody\ntry r=A\n", "cells\nbody\ntry A=r\n", "cells 1\nbody\ntry r=B\n", "cells 1\nbody\ntry B=r\n", "cells 1 1 1\nbody\ntry r=D\n", "cells 1 1 1\nbody\ntry D=r\n", "cells 1\nbody\ntry A=A\n", "cells 1\nbody\ntry A=1\n", "cells 1\nbody\ntry a=r\n",
+	"cells\nbody\ntry r+\n", "cells\nbody\ntry +r\n", "cells\nbody\ntry +\n", "cells\nbody\ntry r+u\n", "cells\nbody\ntry r+1\n", "cells 1\nbody\ntry r+A\n", "cells\nbody\ntry r+s+t\n", "cells\nbody\ntry r+s?\n",
+	"cells\nbody\ntry ?\n", "cells\nbody\ntry r??\n", "cells\nbody\ntry u?\n", "cells\nbody\ntry r?0\n", "cells 1\nbody\ntry A?\n", "cells\nbody\ntry r ?\n", "cells\nbody\ntry rs?\n",
+	"cells\nbody\nfork 1 1\nfork 1 1\nbody\nfork 2\nbody\n", "cells\nbody\nfork 1 1\nfork 1 1\nfork 1 1\nfork 1\nbody\n",
+}
+
 func TestWrongTextsAreRefused(t *testing.T) {
-	wrong := []string{
-		"", "\n", " ", "cells", "cells\n", "body", "body\n", "cells\nbody", "cells body\n", "\ncells\nbody\n", "cells\n\nbody\n", "cells\nbody\n\n",
-		" cells\nbody\n", "cells \nbody\n", "cells  1\nbody\n", "cells 1 \nbody\n", "cells\tbody\n", "cells\r\nbody\r\n", "cells\nbody \n", "cells\n body\n",
-		"cells 01\nbody\n", "cells 00\nbody\n", "cells -0\nbody\n", "cells +1\nbody\n", "cells -1\nbody\n", "cells 1_0\nbody\n", "cells 0x1\nbody\n", "cells 1.\nbody\n", "cells 1e1\nbody\n", "cells \u0661\nbody\n",
-		"cells 100\nbody\n", "cells 1 2 3 4\nbody\n", "cells 18446744073709551616\nbody\n", "cells 9223372036854775808\nbody\n", "cells A\nbody\n",
-		"body\ncells\n", "cells\nbody\ncells\n", "cells\ncells\nbody\n", "cells 1\ncells 1\nbody\n", "fail\ncells\nbody\n", "cells\nfail\nbody\n", "cells\nbody 1\n", "Cells\nbody\n", "cells\nBody\n", "cell\nbody\n", "cells\nbodies\n",
-		"cells\nbody\nbody\nbody\nbody\nbody\n", "cells\nbody\nfail\nfail\nfail\nfail\nfail\n",
-		"cells\nbody\nfail \n", "cells\nbody\n fail\n", "cells\nbody\nfail r\n", "cells\nbody\nfail 1\n", "cells\nbody\nFAIL\n", "cells\nbody\nfail\x00\n", "cells\nbody\nwhat\n",
-		"cells\nbody\nfailif\n", "cells\nbody\nfailif \n", "cells\nbody\nfailif u\n", "cells\nbody\nfailif A\n", "cells\nbody\nfailif 0\n", "cells\nbody\nfailif r s\n", "cells\nbody\nfailif rs\n", "cells\nbody\nfailif  r\n",
-		"cells\nbody\nfork\nbody\n", "cells\nbody\nfork \nbody\n", "cells\nbody\nfork 0\nbody\n", "cells\nbody\nfork 2\nbody\n", "cells\nbody\nfork 01\nbody\n", "cells\nbody\nfork -1\nbody\n", "cells\nbody\nfork 1 1 1\nbody\n", "cells\nbody\nfork 1,1\nbody\n", "cells\nbody\nfork r\nbody\n",
-		"cells\nbody\ntry \n", "cells\nbody\ntry r=0  s=0\n", "cells\nbody\ntry r=0 \n", "cells\nbody\ntry u=1\n", "cells\nbody\ntry r=100\n", "cells\nbody\ntry r=07\n", "cells\nbody\ntry r=-1\n", "cells\nbody\ntry r=+1\n", "cells\nbody\ntry r= 1\n", "cells\nbody\ntry r=\n", "cells\nbody\ntry =1\n", "cells\nbody\ntry =\n", "cells\nbody\ntry r\n", "cells\nbody\ntry r==1\n", "cells\nbody\ntry r=s\n", "cells\nbody\ntry r=1 r=1 r=1 r=1 r=1 r=1\n",
-		"cells\nbody\ntry r=A\n", "cells\nbody\ntry A=r\n", "cells 1\nbody\ntry r=B\n", "cells 1\nbody\ntry B=r\n", "cells 1 1 1\nbody\ntry r=D\n", "cells 1 1 1\nbody\ntry D=r\n", "cells 1\nbody\ntry A=A\n", "cells 1\nbody\ntry A=1\n", "cells 1\nbody\ntry a=r\n",
-		"cells\nbody\ntry r+\n", "cells\nbody\ntry +r\n", "cells\nbody\ntry +\n", "cells\nbody\ntry r+u\n", "cells\nbody\ntry r+1\n", "cells 1\nbody\ntry r+A\n", "cells\nbody\ntry r+s+t\n", "cells\nbody\ntry r+s?\n",
-		"cells\nbody\ntry ?\n", "cells\nbody\ntry r??\n", "cells\nbody\ntry u?\n", "cells\nbody\ntry r?0\n", "cells 1\nbody\ntry A?\n", "cells\nbody\ntry r ?\n", "cells\nbody\ntry rs?\n",
-		"cells\nbody\nfork 1 1\nfork 1 1\nbody\nfork 2\nbody\n", "cells\nbody\nfork 1 1\nfork 1 1\nfork 1 1\nfork 1\nbody\n",
-	}
-	for _, text := range wrong {
+	for _, text := range wrongTexts {
 		refused(t, text)
 	}
 }
